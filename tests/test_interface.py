@@ -1,0 +1,70 @@
+"""The interface: each name that has landed stands in its file, with its parameters and its methods."""
+
+import importlib
+import inspect
+import unittest
+
+FUNCTIONS = {
+    "beds": {"beside": "place"},
+    "ends": {
+        "rounds_of": "bed most", "settle": "bed most", "first_run": "bed most", "ends_of": "bed most",
+        "is_parting": "bed paper", "is_one_end": "bed paper", "scar_of": "bed hole", "healing_of": "bed",
+        "is_scar": "bed paper", "is_healing": "bed paper"},
+}
+
+CLASSES = {
+    "errors": {
+        "BadText": "line column", "BadNumber": "what number", "BadName": "name", "BadTile": "tile",
+        "BadPlace": "place", "NoName": "name", "TakenName": "name", "NotThere": "place", "Taken": "place",
+        "Loose": "place bonds", "TooMany": "what many limit", "NotKept": "promise witness",
+        "NothingToUndo": "", "NothingToRedo": ""},
+    "beds": {"Tile": "name west south east north", "TileSet": "tiles", "Bed": "tile_set seed_place seed_name"},
+    "ends": {"OneEnd": "comings walls", "Parting": "one two", "Heals": "comings", "Scar": "hole comings"},
+}
+
+METHODS = {
+    "Tile": {"glue_at": "side"},
+    "TileSet": {"tile_of": "name", "has": "name", "names": "", "with_glue": "side glue"},
+    "Bed": {
+        "at": "place", "places": "", "pairs": "", "how_many": "", "bonds": "place name", "fitting": "place",
+        "may_come_at": "place", "may_come": "", "come": "place name", "slip": "place name", "cut": "places",
+        "twin": ""},
+}
+
+
+def module_of(name):
+    return importlib.import_module("tilesregrow." + name)
+
+
+def parameters(function):
+    return [name for name in inspect.signature(function).parameters if name != "self"]
+
+
+class InterfaceTest(unittest.TestCase):
+    def test_functions(self):
+        for module, functions in FUNCTIONS.items():
+            for name, told in functions.items():
+                function = getattr(module_of(module), name)
+                self.assertEqual(parameters(function), told.split(), name)
+                self.assertEqual(function.__module__, "tilesregrow." + module)
+
+    def test_classes(self):
+        for module, classes in CLASSES.items():
+            for name, told in classes.items():
+                kind = getattr(module_of(module), name)
+                self.assertEqual(parameters(kind), told.split(), name)
+                self.assertEqual(kind.__module__, "tilesregrow." + module)
+
+    def test_methods_are_defined_in_their_classes(self):
+        for name, methods in METHODS.items():
+            kind = getattr(module_of("beds"), name)
+            for method, told in methods.items():
+                self.assertIn(method, vars(kind))
+                self.assertEqual(parameters(vars(kind)[method]), told.split(), method)
+
+    def test_the_package_is_one_folder_that_can_be_imported(self):
+        self.assertTrue(module_of("beds").__file__.replace("\\", "/").endswith("/tilesregrow/beds.py"))
+
+
+if __name__ == "__main__":
+    unittest.main()

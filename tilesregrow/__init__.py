@@ -1,0 +1,1 @@
+"""Tilesregrow: programs that become tiles that build themselves and heal."""
