@@ -10,6 +10,15 @@ FUNCTIONS = {
         "rounds_of": "bed most", "settle": "bed most", "first_run": "bed most", "ends_of": "bed most",
         "is_parting": "bed paper", "is_one_end": "bed paper", "scar_of": "bed hole", "healing_of": "bed",
         "is_scar": "bed paper", "is_healing": "bed paper"},
+    "sweeps": {
+        "letters_of": "sweeps", "states_of": "sweeps direction", "run": "sweeps most", "fed": "sweeps words",
+        "parted": "one two", "alike": "sweeps direction", "least": "sweeps"},
+    "programs": {"is_over": "program order", "moments": "program values most"},
+    "compiling": {
+        "first_row": "program values", "values_of": "row", "sweeps_of": "program values", "steps_told": "program rows"},
+    "blocks": {
+        "outcome": "sweeps label", "labels_of": "sweeps", "tiles_of": "sweeps", "bed_of": "sweeps",
+        "label_at": "bed column row", "shown": "sweeps bed"},
 }
 
 CLASSES = {
@@ -20,15 +29,20 @@ CLASSES = {
         "NothingToUndo": "", "NothingToRedo": ""},
     "beds": {"Tile": "name west south east north", "TileSet": "tiles", "Bed": "tile_set seed_place seed_name"},
     "ends": {"OneEnd": "comings walls", "Parting": "one two", "Heals": "comings", "Scar": "hole comings"},
+    "sweeps": {"Sweeps": "first begin steps turns"},
+    "programs": {"Program": "text"},
+    "blocks": {"Picture": "sweeps most"},
 }
 
 METHODS = {
-    "Tile": {"glue_at": "side"},
-    "TileSet": {"tile_of": "name", "has": "name", "names": "", "with_glue": "side glue"},
-    "Bed": {
-        "at": "place", "places": "", "pairs": "", "how_many": "", "bonds": "place name", "fitting": "place",
-        "may_come_at": "place", "may_come": "", "come": "place name", "slip": "place name", "cut": "places",
-        "twin": ""},
+    "beds": {
+        "Tile": {"glue_at": "side"},
+        "TileSet": {"tile_of": "name", "has": "name", "names": "", "with_glue": "side glue"},
+        "Bed": {
+            "at": "place", "places": "", "pairs": "", "how_many": "", "bonds": "place name", "fitting": "place",
+            "may_come_at": "place", "may_come": "", "come": "place name", "slip": "place name", "cut": "places",
+            "twin": ""}},
+    "blocks": {"Picture": {"due": "place", "lacking": "bed", "strange": "bed"}},
 }
 
 
@@ -56,11 +70,12 @@ class InterfaceTest(unittest.TestCase):
                 self.assertEqual(kind.__module__, "tilesregrow." + module)
 
     def test_methods_are_defined_in_their_classes(self):
-        for name, methods in METHODS.items():
-            kind = getattr(module_of("beds"), name)
-            for method, told in methods.items():
-                self.assertIn(method, vars(kind))
-                self.assertEqual(parameters(vars(kind)[method]), told.split(), method)
+        for module, classes in METHODS.items():
+            for name, methods in classes.items():
+                kind = getattr(module_of(module), name)
+                for method, told in methods.items():
+                    self.assertIn(method, vars(kind))
+                    self.assertEqual(parameters(vars(kind)[method]), told.split(), method)
 
     def test_the_package_is_one_folder_that_can_be_imported(self):
         self.assertTrue(module_of("beds").__file__.replace("\\", "/").endswith("/tilesregrow/beds.py"))
