@@ -238,12 +238,14 @@ class Bed:
         """The tiles at these places go; returns how many went."""
         self.check_hole(places)
         gone = [place for place in sorted(set(places)) if place in self._rank_at]
+        touched = {}
         for place in gone:
             del self._rank_at[place]
-        for place in gone:
-            self._look_at(place)
+            touched[place] = True
             for other in places_around(place):
-                self._look_at(other)
+                touched[other] = True
+        for place in touched:
+            self._look_at(place)
         return len(gone)
 
     def twin(self):

@@ -158,17 +158,22 @@ def shown(sweeps, bed):
     return tuple(found)
 
 
+def label_beside(sweeps, label, below):
+    """The label of the cell that is made behind a cell with a label "start" or "step", over a cell with this one."""
+    direction, state, _ = outcome(sweeps, label)
+    _, _, letter = outcome(sweeps, below)
+    # Above the cell that was made first in its row the walk comes to its last letter.
+    word = "last" if below[0] == "start" or below == ("first", 0) else "step"
+    return (word, direction, state, letter)
+
+
 def labels_above(sweeps, labels, row):
     """The tuple of the labels of the row with this number, from 1 on, above a row with these labels."""
     direction = direction_of(row)
     belows = in_order(direction, labels)
     made = [("start", belows[0])]
     for below in belows[1:]:
-        _, state, _ = outcome(sweeps, made[-1])
-        _, _, letter = outcome(sweeps, below)
-        # Above the cell that was made first in its row the walk comes to its last letter.
-        word = "last" if below[0] == "start" or below == ("first", 0) else "step"
-        made.append((word, direction, state, letter))
+        made.append(label_beside(sweeps, made[-1], below))
     turn = turn_at(sweeps, made[-1])
     if turn is not None and turn[1] is not None:
         made.append(("extra", made[-1][2], made[-1][3]))

@@ -4,6 +4,9 @@ DIRECTIONS = ("l", "r")
 
 OTHER_DIRECTION = {"l": "r", "r": "l"}
 
+# How much a walk in a direction adds to the column with each step.
+STRIDE = {"l": -1, "r": 1}
+
 
 def is_direction(value):
     """Whether a value is one of the two directions."""

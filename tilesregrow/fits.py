@@ -51,10 +51,20 @@ class Fits:
 
     def _lots(self, facing):
         """Lists of ranks, each ascending, with all tiles that have bonds of two at least."""
-        found = [self._strong[side].get(number) for side, number in enumerate(facing)]
-        for index, (one, two) in enumerate(SIDE_PAIRS):
-            found.append(self._weak[index].get((facing[one], facing[two])))
-        return [ranks for ranks in found if ranks is not None]
+        found = []
+        weak = 0
+        for side, number in enumerate(facing):
+            if self._strengths[number] == 1:
+                weak += 1
+            elif number in self._strong[side]:
+                found.append(self._strong[side][number])
+        # Most places are faced by few tiles, so that pairs seldom need a look.
+        if weak >= 2:
+            for index, (one, two) in enumerate(SIDE_PAIRS):
+                pair = (facing[one], facing[two])
+                if pair in self._weak[index]:
+                    found.append(self._weak[index][pair])
+        return found
 
     def first(self, facing):
         """The least rank of a tile that has bonds of two at least beside these glues, or None."""

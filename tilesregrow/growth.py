@@ -3,6 +3,8 @@
 from heapq import heappop, heappush
 
 from tilesregrow.beds import beside
+from tilesregrow.errors import BadNumber
+from tilesregrow.kinds import is_number
 
 
 class Growth:
@@ -20,6 +22,10 @@ class Growth:
             if place not in self._queued and self._bed.is_ready(place):
                 self._queued[place] = True
                 heappush(self._queue, place)
+
+    def goes_on(self):
+        """Whether something may come."""
+        return len(self._queue) > 0
 
     def next_pair(self):
         """The pair that comes next, or None if nothing may come."""
@@ -51,3 +57,31 @@ def bed_behind(bed, run):
             return None
         grown.come(place, name)
     return grown
+
+
+def check_count(many):
+    if not is_number(many):
+        raise BadNumber("many", many)
+
+
+def grow_on(bed, many):
+    """So many times, or as long as something may come, the first pair comes; returns how many came."""
+    check_count(many)
+    growth = Growth(bed)
+    came = 0
+    while came < many and growth.goes_on():
+        growth.step()
+        came += 1
+    return came
+
+
+def rounds_on(bed, many):
+    """So many rounds, or as long as something may come; returns how many there were."""
+    check_count(many)
+    done = 0
+    comings = bed.first_pairs()
+    while done < many and comings:
+        bring(bed, comings)
+        done += 1
+        comings = bed.first_pairs()
+    return done
