@@ -8,7 +8,8 @@ import random
 from tilesregrow.beds import NONE
 from tilesregrow.valves import Grid
 
-# Blocks drawn by hand, the highest places first: "=" and "H" are strong bonds, "-" and "|" weak ones.
+# Blocks as drawings, read line by line against the document: the highest places first; "=" and "H" are strong bonds,
+# "-" and "|" weak ones.
 DRAWN = {1: """
 o=o=o .
     H

@@ -1,4 +1,4 @@
-"""The interface: each name that has landed stands in its file, with its parameters and its methods."""
+"""The interface: each name stands in its file, with its parameters and its methods."""
 
 import importlib
 import inspect
@@ -19,6 +19,18 @@ FUNCTIONS = {
     "blocks": {
         "outcome": "sweeps label", "labels_of": "sweeps", "tiles_of": "sweeps", "bed_of": "sweeps",
         "label_at": "bed column row", "shown": "sweeps bed"},
+    "healing": {
+        "times": "picture bed", "rounds_left": "picture bed", "hole_of": "cells", "is_inner": "picture column row",
+        "weight_of": "chain", "heaviest": "picture cells", "kept_cells": "sweeps bed", "wash": "sweeps bed"},
+    "shapes": {
+        "lengths_of": "sweeps most", "tower": "rows", "square": "rows", "stairs": "steps", "shaped": "lengths"},
+    "valves": {
+        "cells_of": "grid", "places_of": "k", "bonds_of": "k", "right_tiles": "valves",
+        "pair_at": "valves bed column row", "local_wash": "valves bed", "turning_run": "valves column row pair"},
+    "judges": {
+        "first_wrong": "sweeps most history", "pairs_behind": "sweeps most history",
+        "comes_back": "sweeps most history", "washed_back": "sweeps most history"},
+    "story": {"played": "story", "told": "story", "drawn": "world"},
 }
 
 CLASSES = {
@@ -32,7 +44,15 @@ CLASSES = {
     "sweeps": {"Sweeps": "first begin steps turns"},
     "programs": {"Program": "text"},
     "blocks": {"Picture": "sweeps most"},
+    "valves": {"Grid": "word states rule", "Valves": "grid k"},
+    "worlds": {"World": "sweeps most", "GridWorld": "grid k"},
+    "story": {"Story": "text"},
+    "desk": {"Desk": "text"},
 }
+
+WORLD = {
+    "come": "place name", "slip": "place name", "cut": "places", "wash": "", "grow": "many", "rounds": "many",
+    "wrong": "", "lacking": "", "rows": "", "is_whole": ""}
 
 METHODS = {
     "beds": {
@@ -43,6 +63,13 @@ METHODS = {
             "may_come_at": "place", "may_come": "", "come": "place name", "slip": "place name", "cut": "places",
             "twin": ""}},
     "blocks": {"Picture": {"due": "place", "lacking": "bed", "strange": "bed"}},
+    "worlds": {"World": WORLD, "GridWorld": {**WORLD, "bears": ""}},
+    "desk": {
+        "Desk": {
+            "lines": "", "item_names": "", "get_story": "name", "get_world": "name", "put": "text",
+            "edit": "name number text", "add": "name text", "drop": "name", "rename": "name new", "keep": "promise",
+            "release": "promise", "promises": "", "holds": "promise", "broken": "", "undo": "", "redo": "",
+            "attempt": "action", "trial": "action"}},
 }
 
 

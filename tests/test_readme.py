@@ -26,7 +26,7 @@ class ReadmeTest(unittest.TestCase):
                 value = repr(eval(code, names))
                 said = example.split("\n")[node.end_lineno - 1].partition("  # ")[2]
                 # Other comments are words about the value.
-                if said[:1] in tuple("('0123456789TN"):
+                if said[:1] in tuple("('0123456789TFN"):
                     told += 1
                     self.assertTrue(said.startswith(value), (code, value))
         self.assertGreater(told, 10)

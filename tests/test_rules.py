@@ -147,7 +147,60 @@ class NamesTest(unittest.TestCase):
                 self.assertIn(node.func.attr, own | METHODS, name)
 
 
+class ClassesTest(unittest.TestCase):
+    def test_no_name_is_a_method_and_an_attribute_of_a_class(self):
+        for name, node in nodes(ast.ClassDef):
+            methods = {part.name for part in node.body if isinstance(part, ast.FunctionDef)}
+            told = {part.attr for part in ast.walk(node) if isinstance(part, ast.Attribute)
+                    and isinstance(part.ctx, ast.Store) and ast.unparse(part.value) == "self"}
+            self.assertEqual(methods & told, set(), (name, node.name))
+
+    def test_attributes_that_are_read_are_assigned(self):
+        stored = {node.attr for _, node in nodes(ast.Attribute) if isinstance(node.ctx, ast.Store)}
+        own = {node.name for _, node in nodes(ast.FunctionDef)}
+        for name, node in nodes(ast.Attribute):
+            self.assertIn(node.attr, stored | own | METHODS, name)
+
+
+class CallsTest(unittest.TestCase):
+    def test_behind_stars_stand_names(self):
+        for name, node in nodes(ast.Call):
+            for passed in node.args:
+                if isinstance(passed, ast.Starred):
+                    self.assertIsInstance(passed.value, (ast.Name, ast.Attribute), name)
+
+    def test_sets_are_not_changed(self):
+        # A class has a method of this name.
+        for name, node in nodes(ast.Call):
+            if isinstance(node.func, ast.Attribute):
+                self.assertNotIn(node.func.attr, ("add", "discard"), name)
+
+    def test_imports_go_round_no_circle(self):
+        uses = {name[:-3]: [] for name in files()}
+        for name, node in nodes(ast.ImportFrom):
+            if node.module.startswith("tilesregrow."):
+                uses[name[:-3]].append(node.module.split(".")[1])
+        while uses:
+            free = [name for name in uses if not any(other in uses for other in uses[name])]
+            self.assertNotEqual(free, [])
+            for name in free:
+                del uses[name]
+
+
 class StatementsTest(unittest.TestCase):
+    def test_finally_assigns_names_and_attributes_alone(self):
+        for name, node in nodes(ast.Try):
+            for part in node.finalbody:
+                self.assertIsInstance(part, ast.Assign, name)
+                for inner in ast.walk(part):
+                    self.assertIsInstance(
+                        inner, (ast.Assign, ast.Tuple, ast.Name, ast.Attribute, ast.Load, ast.Store), name)
+
+    def test_own_errors_alone_are_caught(self):
+        own = {node.name for name, node in nodes(ast.ClassDef) if name == "errors.py"}
+        for name, node in nodes(ast.ExceptHandler):
+            self.assertIn(ast.unparse(node.type), own, name)
+
     def test_barred_statements(self):
         for kind in BARRED:
             self.assertEqual(nodes(kind), [])

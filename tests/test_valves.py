@@ -85,7 +85,7 @@ class GridTest(TilesTest):
 
 
 class BlockTest(TilesTest):
-    def test_drawn_by_hand(self):
+    def test_drawings(self):
         for k in plain.DRAWN:
             places, ties = plain.drawn(k)
             self.assert_same(places_of(k), tuple(places))
